@@ -1,0 +1,1 @@
+"""A controller's program in a list of instructions."""
