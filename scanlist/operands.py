@@ -63,3 +63,8 @@ def named_value(word):
 
 def is_plain_number(digits):
     return digits == "0" or digits.isdigit() and digits[0] != "0"
+
+
+# How many bits or words of a kind there are.
+def size_of(kind):
+    return SIZES[kind]

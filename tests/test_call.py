@@ -7,27 +7,10 @@ import sys
 import unittest
 
 import scanlist.desk
-from helper import SAMPLE, codes
+from helper import SAMPLE, Unchangeable, codes
 from scanlist.desk import check
 
 TEXTS = (SAMPLE, "", "NOT", "LD\n", "AND ( I0\n", "JMP a\n", "a:\na:\n", ")", "a: JMP a", "\n" * 65536, "NOT\n" * 4097)
-
-
-class ChangedError(Exception):
-    pass
-
-
-def refuse(self, *arguments, **named):
-    raise ChangedError()
-
-
-# Tells of a change that is taken back before the call is over, too.
-class Unchangeable(list):
-    pass
-
-
-for method in "append clear extend insert pop remove reverse sort __setitem__ __delitem__ __iadd__ __imul__".split():
-    setattr(Unchangeable, method, refuse)
 
 
 class Call(unittest.TestCase):

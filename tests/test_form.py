@@ -19,6 +19,9 @@ EXPRESSIONS = (
     ast.FormattedValue, ast.arguments, ast.arg, ast.alias, ast.keyword, ast.Lambda,
     ast.operator, ast.unaryop, ast.boolop, ast.cmpop, ast.expr_context,
 )
+PLAIN_VALUES = (
+    ast.Constant, ast.List, ast.Tuple, ast.Dict, ast.UnaryOp, ast.USub, ast.Name, ast.expr_context,
+)
 BUILTINS = set(
     "len range enumerate zip min max sum abs sorted reversed int str bool list tuple dict set frozenset isinstance ord "
     "repr any all divmod Exception ValueError TypeError KeyError IndexError LookupError ZeroDivisionError "
@@ -82,7 +85,17 @@ class Form(unittest.TestCase):
                 if isinstance(node, ast.Expr):
                     self.assertTrue(is_docstring(node, tree), path)
                 if isinstance(node, ast.Assign):
-                    ast.literal_eval(node.value)
+                    self.assert_plain(node, tree)
+
+    # Plain values, and functions that stand above.
+    def assert_plain(self, node, tree):
+        above = {part.name for part in tree.body if isinstance(part, ast.FunctionDef) and part.lineno < node.lineno}
+        for part in ast.walk(node.value):
+            self.assertIsInstance(part, PLAIN_VALUES, node.lineno)
+            if isinstance(part, ast.Name):
+                self.assertIn(part.id, above, node.lineno)
+        for part in ast.iter_child_nodes(node.value):
+            self.assertNotIsInstance(part, (ast.List, ast.Dict), node.lineno)
 
     def test_statements_and_expressions(self):
         for path, node in nodes(ast.AST):
@@ -110,6 +123,55 @@ class Form(unittest.TestCase):
             defined = {part.name for part in defining.body if isinstance(part, (ast.FunctionDef, ast.ClassDef))}
             for alias in node.names:
                 self.assertIn(alias.name, defined, path)
+
+    def test_no_file_draws_from_itself(self):
+        drawn = {path.stem: set() for path in FILES}
+        for path, node in nodes(ast.ImportFrom):
+            drawn[path.stem].add(node.module.partition(".")[2])
+        while drawn:
+            free = [name for name, sources in drawn.items() if not sources & set(drawn)]
+            self.assertNotEqual([], free, drawn)
+            for name in free:
+                drawn.pop(name)
+
+    def test_what_is_called_like_a_class_or_an_import(self):
+        for path, tree in TREES.items():
+            taken = {part.name for part in ast.walk(tree) if isinstance(part, (ast.ClassDef, ast.alias))}
+            for node in ast.walk(tree):
+                if isinstance(node, ast.arg):
+                    self.assertNotIn(node.arg, taken, path)
+                if isinstance(node, ast.Name) and isinstance(node.ctx, ast.Store):
+                    self.assertNotIn(node.id, taken, path)
+
+    def test_a_name_of_the_top_is_bound_once_and_only_read(self):
+        for path, tree in TREES.items():
+            bound = [part.targets[0].id for part in tree.body if isinstance(part, ast.Assign)]
+            bound += [part.name for part in tree.body if isinstance(part, (ast.FunctionDef, ast.ClassDef))]
+            bound += [part.name for part in ast.walk(tree) if isinstance(part, ast.alias)]
+            self.assertEqual(len(set(bound)), len(bound), path)
+            for node in ast.walk(tree):
+                if isinstance(node, (ast.Subscript, ast.Attribute)) and not isinstance(node.ctx, ast.Load):
+                    self.assertNotIn(getattr(node.value, "id", None), bound, (path, node.lineno))
+
+    def test_the_calls_stand_in_the_desk_alone(self):
+        places = {(path.stem, node.name) for path, node in nodes((ast.FunctionDef, ast.ClassDef))}
+        calls = {place for place in places if place[1] in ("check", "run")}
+        self.assertEqual({("desk", "check"), ("desk", "run")}, calls)
+
+    def test_is_stands_beside_none_true_and_false_alone(self):
+        for path, node in nodes(ast.Compare):
+            for operator, right in zip(node.ops, node.comparators):
+                if isinstance(operator, (ast.Is, ast.IsNot)):
+                    self.assertIsInstance(right, ast.Constant, (path, node.lineno))
+                    self.assertIn(right.value, (None, True, False), (path, node.lineno))
+
+    def test_values_of_objects(self):
+        allowed = set("count index title find get join lower upper split strip copy add".split())
+        own = {name for kind in (str, int, list, dict, set, bytes) for name in dir(kind)} - allowed
+        methods = {node.name for path, node in nodes(ast.FunctionDef)}
+        for path, node in nodes(ast.Attribute):
+            if isinstance(node.ctx, ast.Store):
+                self.assertNotIn(node.attr, own | methods, (path, node.lineno))
 
     def test_names(self):
         for path, tree in TREES.items():
